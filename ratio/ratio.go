@@ -5,6 +5,7 @@ import (
 	"cmp"
 
 	"hushhouse/api"
+	"hushhouse/whole"
 )
 
 // Right tells whether a fraction is written as it must be.
@@ -12,7 +13,7 @@ func Right(r api.Ratio) bool {
 	if r.Up < 0 || r.Up > api.MaxPart || r.Down < 1 || r.Down > api.MaxPart {
 		return false
 	}
-	return divisor(r.Up, r.Down) == 1
+	return whole.Divisor(r.Up, r.Down) == 1
 }
 
 // Make is up / down.
@@ -20,7 +21,7 @@ func Make(up, down int) (api.Ratio, api.Errno) {
 	if up < 0 || down < 1 {
 		return api.Ratio{}, api.ErrRange
 	}
-	d := divisor(up, down)
+	d := whole.Divisor(up, down)
 	r := api.Ratio{Up: up / d, Down: down / d}
 	if r.Up > api.MaxPart || r.Down > api.MaxPart {
 		return api.Ratio{}, api.ErrMuch
@@ -82,12 +83,4 @@ func reckon(a, b api.Ratio, do func() (up, down int)) (api.Ratio, api.Errno) {
 		return api.Ratio{}, api.ErrForm
 	}
 	return Make(do())
-}
-
-// divisor is the greatest number that divides both, neither of which is below 0.
-func divisor(a, b int) int {
-	for b != 0 {
-		a, b = b, a%b
-	}
-	return a
 }
