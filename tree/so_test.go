@@ -127,7 +127,7 @@ func TestG4Lists(t *testing.T) {
 					told := allTold(high, func(api.Spot) int { return 5 })
 					told[step] = make([]int, long, high+3)
 					for k := range told[step] {
-						told[step][k] = 1000 + k // none of these is asked for
+						told[step][k] = 1000 + k // none of these is added
 					}
 					if need[step] > 0 && need[step] <= long {
 						told[step][need[step]-1] = 5
@@ -146,39 +146,86 @@ func TestG4Lists(t *testing.T) {
 	holdSo(t, 3, [][]int{nil}, 1, 0, api.ErrFit)
 }
 
-// TestG4Numbers: the bounds of numbers, in each node: those of the cover alone are asked for.
+// edges are numbers at the bounds, and beyond them.
+var edges = []struct {
+	number int
+	fits   bool
+}{
+	{api.MaxNum, true}, {-api.MaxNum, true}, {api.MaxNum + 1, false}, {-api.MaxNum - 1, false},
+	{math.MaxInt, false}, {math.MinInt, false}, {1 << 32, false}, {-1 << 32, false},
+}
+
+// holdEdge tells a number of one node, threes of all others, and holds what So makes of them.
+func holdEdge(t *testing.T, high, time int, at api.Spot, number int, fits bool) {
+	t.Helper()
+	told := allTold(high, func(s api.Spot) int {
+		if s == at {
+			return number
+		}
+		return 3
+	})
+	_, end := stepsOf(at)
+	sum, asked := 0, false // asked: a node of the cover ends with the step at which the number was told
+	for _, s := range slowCover(high, time) {
+		_, to := stepsOf(s)
+		asked = asked || to == end
+		sum += told[to-1][s.Level]
+	}
+	if asked && !fits {
+		holdSo(t, high, told, time, 0, api.ErrFit)
+	} else {
+		holdSo(t, high, told, time, sum, api.OK)
+	}
+}
+
+// TestG4Numbers: the bounds of numbers, in each node: those that were told at the last steps of the cover's nodes are asked for, all of them, and no others.
 func TestG4Numbers(t *testing.T) {
 	const high = 4
 	for time := range power(high) + 1 {
-		covers := map[api.Spot]int{}
-		for _, s := range slowCover(high, time) {
-			covers[s]++
-		}
 		for _, at := range nodes(high) {
-			for _, x := range []struct {
-				number int
-				fits   bool
-			}{
-				{api.MaxNum, true}, {-api.MaxNum, true}, {api.MaxNum + 1, false}, {-api.MaxNum - 1, false},
-				{math.MaxInt, false}, {math.MinInt, false}, {1 << 32, false}, {-1 << 32, false},
-			} {
-				told := allTold(high, func(s api.Spot) int {
-					if s == at {
-						return x.number
+			for _, x := range edges {
+				holdEdge(t, high, time, at, x.number, x.fits)
+			}
+		}
+	}
+}
+
+// TestG4NumbersOfNoNode: a number beyond the bounds counts also where it stands behind those of all nodes that ended.
+func TestG4NumbersOfNoNode(t *testing.T) {
+	const high = 3
+	for time := range power(high) + 1 {
+		cover := slowCover(high, time)
+		ends := map[int]bool{}
+		for _, s := range cover {
+			_, to := stepsOf(s)
+			ends[to-1] = true
+		}
+		for step := range power(high) {
+			for _, x := range edges {
+				for _, behind := range [][]int{{x.number}, {0, x.number}, {x.number, 0}} {
+					told := allTold(high, func(api.Spot) int { return 3 })
+					told[step] = append(told[step], behind...)
+					if ends[step] && !x.fits {
+						holdSo(t, high, told, time, 0, api.ErrFit)
+					} else {
+						holdSo(t, high, told, time, 3*len(cover), api.OK)
 					}
-					return 3
-				})
-				switch {
-				case covers[at] == 0:
-					holdSo(t, high, told, time, 3*len(covers), api.OK)
-				case x.fits:
-					holdSo(t, high, told, time, 3*len(covers)-3+x.number, api.OK)
-				default:
-					holdSo(t, high, told, time, 0, api.ErrFit)
 				}
 			}
 		}
 	}
+}
+
+// TestG4NumbersExample: a number of another level, one of no level, and one of a step with which no node of the cover ends.
+func TestG4NumbersExample(t *testing.T) {
+	holdSo(t, 1, [][]int{{7}, {4, 1}}, 2, 1, api.OK)
+	holdSo(t, 1, [][]int{{7}, {api.MaxNum + 1, 1}}, 2, 0, api.ErrFit)
+	holdSo(t, 1, [][]int{{7}, {4, 1, math.MinInt}}, 2, 0, api.ErrFit)
+	holdSo(t, 1, [][]int{{7}, {api.MaxNum, 1, -api.MaxNum}}, 2, 1, api.OK)
+	holdSo(t, 1, [][]int{{api.MaxNum + 1}, {4, 1}}, 2, 1, api.OK)
+	holdSo(t, 2, [][]int{{7}, {4, 1}, {2, math.MaxInt}}, 3, 0, api.ErrFit)
+	holdSo(t, 2, [][]int{{7}, {4, 1}, {2, math.MaxInt}}, 2, 1, api.OK)
+	holdSo(t, 1, [][]int{{7}, roomy([]int{4, 1}, math.MaxInt)}, 2, 1, api.OK) // what lies in the spare room was not told
 }
 
 // TestG4Greatest: as many and as large numbers as there may be.
@@ -190,5 +237,7 @@ func TestG4Greatest(t *testing.T) {
 		told[1022][0] = sign * (api.MaxNum + 1)
 		holdSo(t, api.MaxHigh, told, 1023, 0, api.ErrFit)
 		holdSo(t, api.MaxHigh, told, 1024, sign*api.MaxNum, api.OK)
+		told[1023][4] = sign * (api.MaxNum + 1)
+		holdSo(t, api.MaxHigh, told, 1024, 0, api.ErrFit)
 	}
 }
