@@ -5,7 +5,6 @@ import (
 	"slices"
 
 	"hushhouse/api"
-	"hushhouse/whole"
 )
 
 // shape is a pyramid without its counts: how many nodes it has, and how many of them are of the lowest level.
@@ -112,17 +111,4 @@ func (s shape) settle(numbers []int) {
 			numbers[b] += more
 		}
 	}
-}
-
-// lowestTerms are fractions over one line, which is above 0, without what divides all of them and the line.
-func lowestTerms(up []int, down int) ([]int, int) {
-	d := down
-	for _, x := range up {
-		d = whole.Divisor(d, x)
-	}
-	out := make([]int, len(up))
-	for i, x := range up {
-		out[i] = x / d
-	}
-	return out, down / d
 }

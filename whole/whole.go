@@ -8,3 +8,16 @@ func Divisor(a, b int) int {
 	}
 	return max(a, -a)
 }
+
+// Lowest are fractions over one line, which is above 0, without what divides all of them and the line.
+func Lowest(up []int, down int) ([]int, int) {
+	by := down
+	for _, x := range up {
+		by = Divisor(by, x)
+	}
+	out := make([]int, len(up))
+	for i, x := range up {
+		out[i] = x / by
+	}
+	return out, down / by
+}
