@@ -8,27 +8,6 @@ import (
 	"hushhouse/api"
 )
 
-// maxName: letters of a column's name.
-const maxName = 32
-
-// named tells whether a column may have this name.
-func named(s string) bool {
-	return len(s) >= 1 && len(s) <= maxName && run(s, letter) == len(s)
-}
-
-// run is how many bytes ahead of all others are so.
-func run(s string, so func(byte) bool) int {
-	n := 0
-	for n < len(s) && so(s[n]) {
-		n++
-	}
-	return n
-}
-
-func letter(b byte) bool { return b >= 'a' && b <= 'z' || b == '_' }
-
-func digit(b byte) bool { return b >= '0' && b <= '9' }
-
 // size is how many cells there are of columns with right Sizes; if there are more than MaxCells, one more than that: all of them may not fit into a word.
 func size(l []api.Column) int {
 	n := 1

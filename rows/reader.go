@@ -4,6 +4,7 @@ import (
 	"strconv"
 
 	"hushhouse/api"
+	"hushhouse/runs"
 )
 
 // reader reads a text from its first byte on.
@@ -90,15 +91,15 @@ func (r *reader) row(l []api.Column) ([]int, api.Errno) {
 // name reads a name: no letter can go on with one that is as long as it may be.
 func (r *reader) name() (string, bool) {
 	rest := r.text[r.at:]
-	n := run(rest, letter)
-	r.at += min(n, maxName)
-	return rest[:n], named(rest[:n])
+	n := runs.Letters(rest)
+	r.at += min(n, runs.MaxName)
+	return rest[:n], runs.Name(rest[:n])
 }
 
 // number reads a number; one that is wrong is so at its first byte.
 func (r *reader) number() (int, bool) {
 	rest := r.text[r.at:]
-	n := run(rest, digit)
+	n := runs.Digits(rest)
 	value, err := strconv.ParseUint(rest[:n], 10, 31)
 	if err != nil || n > 1 && rest[0] == '0' {
 		return 0, false
