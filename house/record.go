@@ -1,6 +1,11 @@
 package house
 
-import "hushhouse/api"
+import (
+	"strings"
+
+	"hushhouse/api"
+	"hushhouse/laid"
+)
 
 // record is an entry as it lies on a disk.
 type record [api.MaxRecord]int64
@@ -15,26 +20,12 @@ const (
 	atName
 )
 
-// What a head says.
-const (
-	headBegun = 0
-	headWhole = 1
-)
-
-// inWord: bytes of a name.
-const inWord = 8
-
 // recordOf is the record of an entry whose name fits into it.
 func recordOf(e api.Entry) record {
-	r := record{atHead: headWhole, atDo: int64(e.Do), atPart: int64(e.Part), atUp: int64(e.Loss.Up), atDown: int64(e.Loss.Down)}
-	for i := range len(e.Name) {
-		r[atName+i/inWord] |= int64(e.Name[i]) << highestFirst(i)
-	}
+	r := record{atHead: laid.Whole, atDo: int64(e.Do), atPart: int64(e.Part), atUp: int64(e.Loss.Up), atDown: int64(e.Loss.Down)}
+	copy(r[atName:], laid.Words(e.Name))
 	return r
 }
-
-// highestFirst is how far a name's byte is above the lowest one of its word.
-func highestFirst(i int) int { return 8 * (inWord - 1 - i%inWord) }
 
 // entry is what a record says; false, if its words are not those of that. (A Part that says nothing may be any number: the book leaves it out.)
 func (r record) entry() (api.Entry, bool) {
@@ -43,15 +34,7 @@ func (r record) entry() (api.Entry, bool) {
 }
 
 // name is all bytes that are not nought, wherever they stand: that none stand behind a nought is seen when they are laid again.
-func (r record) name() string {
-	var out []byte
-	for i := range inWord * (api.MaxRecord - atName) {
-		if b := byte(r[atName+i/inWord] >> highestFirst(i)); b != 0 {
-			out = append(out, b)
-		}
-	}
-	return string(out)
-}
+func (r record) name() string { return strings.ReplaceAll(laid.Bytes(r[atName:]), "\x00", "") }
 
 // room tells whether one more record fits on the disk.
 func (h *House) room() bool { return (h.records+1)*api.MaxRecord <= h.disk.Size() }
@@ -79,19 +62,8 @@ func (h *House) read() record {
 	return r
 }
 
-// write lays the next record; false, if the power went. The head says that it is whole only when all else lies there: so what lies there by halves never counts.
-func (h *House) write(r record) bool {
-	put := func(i int, w int64) bool { return h.disk.Put(h.start()+i, w) }
-	if !put(atHead, headBegun) {
-		return false
-	}
-	for i := atDo; i < api.MaxRecord; i++ {
-		if !put(i, r[i]) {
-			return false
-		}
-	}
-	return put(atHead, headWhole)
-}
+// write lays the next record; false, if the power went.
+func (h *House) write(r record) bool { return laid.Put(h.disk, h.start(), r[:]) }
 
 // noWords is the disk of a house that was given none.
 type noWords struct{}
